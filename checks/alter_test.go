@@ -13,6 +13,7 @@ import (
 
 // P14.1 to P14.3
 func TestAlter(t *testing.T) {
+	t.Parallel()
 	rng := rand.New(rand.NewSource(14))
 	done, shapeless := 0, 0
 	for done < 1500 {

@@ -48,6 +48,7 @@ func isPart(b, a api.Form) bool {
 
 // P16.2 to P16.5
 func TestAnchor(t *testing.T) {
+	t.Parallel()
 	rng := rand.New(rand.NewSource(17))
 	parts, forms := 0, 0
 	for range 4000 {

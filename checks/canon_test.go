@@ -29,6 +29,7 @@ func equal(f, g api.Form) bool {
 
 // P6.1 to P6.3
 func TestCanon(t *testing.T) {
+	t.Parallel()
 	rng := rand.New(rand.NewSource(6))
 	same := 0
 	for range 20000 {

@@ -64,6 +64,7 @@ func near(l []int) bool {
 
 // P15.2 to P15.4
 func TestCombine(t *testing.T) {
+	t.Parallel()
 	rng := rand.New(rand.NewSource(15))
 	for range 1200 {
 		a, b := couple(rng)
@@ -104,6 +105,7 @@ func TestCombine(t *testing.T) {
 
 // P15.1: what is affected, straight from the words.
 func TestTouched(t *testing.T) {
+	t.Parallel()
 	rng := rand.New(rand.NewSource(16))
 	for range 1500 {
 		a, b := couple(rng)

@@ -45,6 +45,7 @@ func existing(f api.Form) ([]int, [][]api.Span) {
 
 // P7.1, P7.2, P7.4
 func TestFind(t *testing.T) {
+	t.Parallel()
 	rng := rand.New(rand.NewSource(7))
 	for range 2500 {
 		f, by := anyForm(rng), 1
@@ -87,6 +88,7 @@ func TestFind(t *testing.T) {
 
 // P7.3
 func TestFindOver(t *testing.T) {
+	t.Parallel()
 	rng := rand.New(rand.NewSource(8))
 	for range 2000 {
 		f := anyForm(rng)

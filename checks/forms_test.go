@@ -223,6 +223,7 @@ func orderly(f api.Form) bool {
 
 // P5.1, P5.3, P5.4
 func TestGran(t *testing.T) {
+	t.Parallel()
 	rng := rand.New(rand.NewSource(5))
 	wrong, fine := 0, 0
 	for range 20000 {

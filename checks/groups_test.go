@@ -26,6 +26,7 @@ func says(t *testing.T, f api.Form, far int, set func(i int) []api.Span) {
 
 // P13.1 to P13.5
 func TestGroups(t *testing.T) {
+	t.Parallel()
 	rng := rand.New(rand.NewSource(13))
 	for range 3000 {
 		f := anyForm(rng)
