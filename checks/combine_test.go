@@ -59,7 +59,7 @@ func meets(a, b []int) bool {
 
 // near reports whether all ticks of a set are near 0.
 func near(l []int) bool {
-	return len(l) == 0 || l[0] > -60 && l[len(l)-1] < 60
+	return len(l) == 0 || l[0] > -75 && l[len(l)-1] < 75
 }
 
 // P15.2 to P15.4

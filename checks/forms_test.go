@@ -127,6 +127,7 @@ func around(f api.Form, i int) (int, int) {
 		to = ticks(f, j)[0].From - 1
 		from = max(from, to-20)
 	}
+	from, to = max(from, -70), min(to, 70)
 	if to < from {
 		return from, from
 	}
