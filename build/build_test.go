@@ -1,7 +1,6 @@
 package build
 
 import (
-	"slices"
 	"testing"
 
 	"epact/alter"
@@ -15,25 +14,16 @@ import (
 	"epact/groups"
 	"epact/lex"
 	"epact/parse"
+	"epact/sample"
 	"epact/sets"
 )
 
-func set(n ...int) []api.Span {
-	var l []api.Span
-	for i := 0; i+1 < len(n); i += 2 {
-		l = append(l, api.Span{From: n[i], To: n[i+1]})
-	}
-	return l
-}
-
-func form(period int, core ...[]api.Span) api.Form {
-	return api.Form{Period: period, Count: len(core), Core: core}
-}
-
-func equal(f, g api.Form) bool {
-	return f.Period == g.Period && f.Count == g.Count && slices.EqualFunc(f.Core, g.Core, slices.Equal) &&
-		slices.EqualFunc(f.Odd, g.Odd, func(a, b api.Granule) bool { return a.Index == b.Index && slices.Equal(a.Ticks, b.Ticks) })
-}
+// Forms are written in short.
+var (
+	set   = sample.Set
+	form  = sample.Form
+	equal = sample.Equal
+)
 
 func read(s string) api.Expr {
 	l, _ := lex.Words(s)

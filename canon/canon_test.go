@@ -1,41 +1,23 @@
 package canon
 
 import (
-	"slices"
 	"testing"
 
 	"epact/api"
 	"epact/gran"
+	"epact/sample"
+)
+
+// Forms are written in short.
+var (
+	set   = sample.Set
+	form  = sample.Form
+	with  = sample.With
+	odd   = sample.Odd
+	equal = sample.Equal
 )
 
 const top = api.MaxTick
-
-func set(n ...int) []api.Span {
-	var l []api.Span
-	for i := 0; i+1 < len(n); i += 2 {
-		l = append(l, api.Span{From: n[i], To: n[i+1]})
-	}
-	return l
-}
-
-func form(period int, core ...[]api.Span) api.Form {
-	return api.Form{Period: period, Count: len(core), Core: core}
-}
-
-func with(f api.Form, odd ...api.Granule) api.Form {
-	f.Odd = odd
-	return f
-}
-
-func odd(i int, n ...int) api.Granule {
-	return api.Granule{Index: i, Ticks: set(n...)}
-}
-
-// equal reports whether two forms have the same numbers in them.
-func equal(f, g api.Form) bool {
-	return f.Period == g.Period && f.Count == g.Count && len(f.Core) == len(g.Core) && slices.EqualFunc(f.Core, g.Core, slices.Equal) &&
-		slices.EqualFunc(f.Odd, g.Odd, func(a, b api.Granule) bool { return a.Index == b.Index && slices.Equal(a.Ticks, b.Ticks) })
-}
 
 // P6.1, P6.2
 func TestForm(t *testing.T) {

@@ -6,6 +6,15 @@ import (
 
 	"epact/api"
 	"epact/basis"
+	"epact/sample"
+)
+
+// Forms are written in short.
+var (
+	set  = sample.Set
+	form = sample.Form
+	with = sample.With
+	odd  = sample.Odd
 )
 
 const top = api.MaxTick
@@ -16,27 +25,6 @@ var (
 )
 
 func num(n int) api.Bound { return api.Bound{N: n} }
-
-func set(n ...int) []api.Span {
-	var l []api.Span
-	for i := 0; i+1 < len(n); i += 2 {
-		l = append(l, api.Span{From: n[i], To: n[i+1]})
-	}
-	return l
-}
-
-func form(period int, core ...[]api.Span) api.Form {
-	return api.Form{Period: period, Count: len(core), Core: core}
-}
-
-func with(f api.Form, odd ...api.Granule) api.Form {
-	f.Odd = odd
-	return f
-}
-
-func odd(i int, n ...int) api.Granule {
-	return api.Granule{Index: i, Ticks: set(n...)}
-}
 
 var (
 	days  = form(1, set(0, 0))

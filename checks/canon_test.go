@@ -8,7 +8,12 @@ import (
 	"epact/api"
 	"epact/canon"
 	"epact/gran"
-	"epact/spans"
+	"epact/sample"
+)
+
+// Forms are written in short.
+var (
+	equal = sample.Equal
 )
 
 // alike reports whether two made-up forms have the same ticks for all indices that are not too far away.
@@ -19,12 +24,6 @@ func alike(f, g api.Form) bool {
 		}
 	}
 	return true
-}
-
-// equal reports whether two forms are represented in the same way.
-func equal(f, g api.Form) bool {
-	return f.Period == g.Period && f.Count == g.Count && slices.EqualFunc(f.Core, g.Core, spans.Same) &&
-		slices.EqualFunc(f.Odd, g.Odd, func(a, b api.Granule) bool { return a.Index == b.Index && spans.Same(a.Ticks, b.Ticks) })
 }
 
 // P6.1 to P6.3

@@ -6,26 +6,17 @@ import (
 	"testing"
 
 	"epact/api"
+	"epact/sample"
+)
+
+// Forms are written in short.
+var (
+	set  = sample.Set
+	form = sample.Form
+	with = sample.With
 )
 
 const top = api.MaxTick
-
-func set(n ...int) []api.Span {
-	var l []api.Span
-	for i := 0; i+1 < len(n); i += 2 {
-		l = append(l, api.Span{From: n[i], To: n[i+1]})
-	}
-	return l
-}
-
-func form(period int, core ...[]api.Span) api.Form {
-	return api.Form{Period: period, Count: len(core), Core: core}
-}
-
-func with(f api.Form, odd ...api.Granule) api.Form {
-	f.Odd = odd
-	return f
-}
 
 var (
 	work = form(7, set(0, 4))

@@ -7,23 +7,15 @@ import (
 
 	"epact/api"
 	"epact/basis"
+	"epact/sample"
 )
 
-func set(n ...int) []api.Span {
-	var l []api.Span
-	for i := 0; i+1 < len(n); i += 2 {
-		l = append(l, api.Span{From: n[i], To: n[i+1]})
-	}
-	return l
-}
-
-func form(period int, core ...[]api.Span) api.Form {
-	return api.Form{Period: period, Count: len(core), Core: core}
-}
-
-func to(low, high int64) api.Range {
-	return api.Range{Low: low, High: high, HasLow: true, HasHigh: true}
-}
+// Forms are written in short.
+var (
+	set  = sample.Set
+	form = sample.Form
+	to   = sample.Range
+)
 
 func from(low int64) api.Range  { return api.Range{Low: low, HasLow: true} }
 func upto(high int64) api.Range { return api.Range{High: high, HasHigh: true} }

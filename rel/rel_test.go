@@ -6,39 +6,19 @@ import (
 
 	"epact/api"
 	"epact/gran"
+	"epact/sample"
+)
+
+// Forms are written in short.
+var (
+	set  = sample.Set
+	form = sample.Form
+	with = sample.With
+	odd  = sample.Odd
+	some = sample.Some
 )
 
 const top = api.MaxTick
-
-func set(n ...int) []api.Span {
-	var l []api.Span
-	for i := 0; i+1 < len(n); i += 2 {
-		l = append(l, api.Span{From: n[i], To: n[i+1]})
-	}
-	return l
-}
-
-func form(period int, core ...[]api.Span) api.Form {
-	return api.Form{Period: period, Count: len(core), Core: core}
-}
-
-func with(f api.Form, odd ...api.Granule) api.Form {
-	f.Odd = odd
-	return f
-}
-
-func odd(i int, n ...int) api.Granule {
-	return api.Granule{Index: i, Ticks: set(n...)}
-}
-
-// some is a form that has some granules of days, of each period.
-func some(period int, indices ...int) api.Form {
-	f := api.Form{Period: period, Count: period, Core: make([][]api.Span, period)}
-	for _, i := range indices {
-		f.Core[i] = set(i, i)
-	}
-	return f
-}
 
 var (
 	days    = form(1, set(0, 0))

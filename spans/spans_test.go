@@ -7,18 +7,15 @@ import (
 	"testing"
 
 	"epact/api"
+	"epact/sample"
+)
+
+// Forms are written in short.
+var (
+	set = sample.Set
 )
 
 const top = api.MaxTick
-
-// set makes spans of pairs of ticks.
-func set(n ...int) []api.Span {
-	var l []api.Span
-	for i := 0; i+1 < len(n); i += 2 {
-		l = append(l, api.Span{From: n[i], To: n[i+1]})
-	}
-	return l
-}
 
 // of makes the right set of the ticks whose bits are set, as slowly as can be.
 func of(bits int) []api.Span {
