@@ -146,7 +146,8 @@ func TestObjects(t *testing.T) {
 	if forms[1].Core[0][0].From != -3 {
 		t.Error(forms)
 	}
-	for _, bad := range []*Calendar{nil, {}} {
+	other := *c
+	for _, bad := range []*Calendar{nil, {}, &other} {
 		if f, e := bad.Form("day"); e != api.ErrNil || f.Core != nil || f.Period != 0 {
 			t.Error(f, e)
 		}
